@@ -1,0 +1,1 @@
+"""Stucklots: things made of flat pieces, taken apart and put together."""

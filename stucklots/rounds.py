@@ -1,0 +1,71 @@
+"""Pairs of numbers, and the round order of directions."""
+
+from math import gcd
+
+from stucklots.errors import InvalidDirection
+from stucklots.words import is_direction, is_number_pair
+
+
+def cross(one, other):
+    """The cross of two pairs of numbers; above 0 if other lies to the left of one."""
+    return one[0] * other[1] - one[1] * other[0]
+
+
+def turned_half(direction):
+    """The direction turned by half."""
+    return (-direction[0], -direction[1])
+
+
+def reduced(pair):
+    """The direction in which a pair of numbers points."""
+    if not is_number_pair(pair) or pair == (0, 0):
+        raise InvalidDirection(pair)
+    divisor = gcd(pair[0], pair[1])
+    direction = (pair[0] // divisor, pair[1] // divisor)
+    if not is_direction(direction):
+        raise InvalidDirection(pair)
+    return direction
+
+
+def in_second_half(direction):
+    """Whether a direction stands in the half of the round that begins with (-1, 0)."""
+    return direction[1] < 0 or (direction[1] == 0 and direction[0] < 0)
+
+
+def stands_ahead(one, other):
+    """Whether a direction stands ahead of another one in round order."""
+    if in_second_half(one) != in_second_half(other):
+        return in_second_half(other)
+    return cross(one, other) > 0
+
+
+def place_in_round(row, direction):
+    """How many directions of a row in round order stand ahead of a direction."""
+    low = 0
+    high = len(row)
+    while low < high:
+        middle = (low + high) // 2
+        if stands_ahead(row[middle], direction):
+            low = middle + 1
+        else:
+            high = middle
+    return low
+
+
+def in_round(directions):
+    """The list of directions in round order, each once."""
+    row = []
+    for direction in directions:
+        at = place_in_round(row, direction)
+        if row[at:at + 1] != [direction]:
+            row.insert(at, direction)
+    return row
+
+
+def next_in_round(directions, direction):
+    """The direction itself if it is in the list, otherwise the next one of the list behind it."""
+    if not is_direction(direction) or len(directions) == 0:
+        raise InvalidDirection(direction)
+    row = in_round(directions)
+    at = place_in_round(row, direction)
+    return row[at] if at < len(row) else row[0]

@@ -28,3 +28,38 @@ def caught(call, *args, **named):
             raise
         return code_and_values(error)
     return None
+
+
+def box(x, y, wide=2, high=2):
+    """The part of a box with its lower left corner and its sizes."""
+    return ((x, y), (x + wide, y), (x + wide, y + high), (x, y + high))
+
+
+def told_from_each_corner(part):
+    """All tuples that tell the same polygon."""
+    return [part[at:] + part[:at] for at in range(len(part))]
+
+
+def convex_hull(points):
+    """The strict corners of the hull of some points, round to the left."""
+    def half(ordered):
+        row = []
+        for x, y in ordered:
+            while len(row) > 1:
+                (a, b), (c, d) = row[-2:]
+                if (c - a) * (y - b) - (d - b) * (x - a) > 0:
+                    break
+                row.pop()
+            row.append((x, y))
+        return row[:-1]
+    ordered = sorted(set(points))
+    return tuple(half(ordered) + half(ordered[::-1]))
+
+
+def random_part(chance, bound=6):
+    """A part by chance, told from some corner on."""
+    while True:
+        hull = convex_hull([(chance.randint(-bound, bound), chance.randint(-bound, bound)) for _ in range(6)])
+        if 3 <= len(hull) <= 6:
+            at = chance.randrange(len(hull))
+            return hull[at:] + hull[:at]

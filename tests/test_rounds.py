@@ -1,3 +1,4 @@
+import itertools
 import math
 import random
 import unittest
@@ -83,6 +84,11 @@ class InRoundTests(unittest.TestCase):
         self.assertEqual(in_round(EIGHT[::-1]), EIGHT)
         self.assertEqual(in_round(EIGHT[5:] + EIGHT[:5]), EIGHT)
         self.assertEqual(in_round(directions=EIGHT[::2] + EIGHT[1::2]), EIGHT)
+
+    def test_each_two_and_each_three_in_each_order(self):
+        for many in (2, 3):
+            for row in itertools.permutations(EIGHT + FINE[::3], many):
+                self.assertEqual(in_round(row), sorted(row, key=angle))
 
     def test_near_directions(self):
         expected = [(999, 1), (999, 2), (998, 999), (1, 999), (-1, 999), (-999, 1), (-998, -999), (1, -999), (999, -1)]

@@ -1,7 +1,7 @@
 """Parts: convex polygons, told round to the left, and how two of them lie beside one another."""
 
 from stucklots.errors import PartsOverlap
-from stucklots.rounds import cross
+from stucklots.rounds import cross, mirrored_pair, moved_point, turned_pair
 from stucklots.words import is_point
 
 LEAST_CORNERS = 3
@@ -130,3 +130,18 @@ def part_bars_way(part, way):
     # The ray meets the inside just as a single corner that is carried along it would.
     point, direction = way
     return side_of_pairs(differences((point,), part), direction) is None
+
+
+def moved_part(part, right, up):
+    """The part with all corners moved; raises OutOfBounds()."""
+    return tuple([moved_point(corner, right, up) for corner in part])
+
+
+def turned_part(part, quarters):
+    """The part with all corners turned."""
+    return tuple([turned_pair(corner, quarters) for corner in part])
+
+
+def mirrored_part(part):
+    """The part with all corners mirrored, told the other way round, as left has become right."""
+    return tuple([mirrored_pair(corner) for corner in part[::-1]])

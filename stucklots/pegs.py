@@ -1,7 +1,7 @@
 """Pegs: what ties two pieces, with ways for a tool."""
 
-from stucklots.carrying import mirrored_way, moved_way, turned_way
 from stucklots.errors import InvalidName, InvalidWay, TooMany
+from stucklots.rounds import mirrored_pair, moved_point, turned_pair
 from stucklots.words import is_name, is_way
 
 
@@ -80,3 +80,18 @@ def check_ways(ways):
             raise InvalidWay(at)
     if len(ways) > Peg.WAYS:
         raise TooMany(Peg.WAYS)
+
+
+def moved_way(way, right, up):
+    """The way with its point moved; raises OutOfBounds()."""
+    return (moved_point(way[0], right, up), way[1])
+
+
+def turned_way(way, quarters):
+    """The way with its point and its direction turned."""
+    return (turned_pair(way[0], quarters), turned_pair(way[1], quarters))
+
+
+def mirrored_way(way):
+    """The way with its point and its direction mirrored."""
+    return (mirrored_pair(way[0]), mirrored_pair(way[1]))

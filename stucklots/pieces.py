@@ -1,8 +1,8 @@
 """Pieces: a name and parts that hang together."""
 
-from stucklots.carrying import mirrored_part, moved_part, turned_part
 from stucklots.errors import InvalidName, InvalidPart, Loose, PartsOverlap, TooMany
-from stucklots.parts import area_twice, first_loose, is_part, overlap, part_bars_way, part_told
+from stucklots.parts import area_twice, first_loose, is_part, mirrored_part, moved_part, overlap, part_bars_way
+from stucklots.parts import part_told, turned_part
 from stucklots.words import is_name
 
 

@@ -1,9 +1,9 @@
-"""Pairs of numbers, and the round order of directions."""
+"""Pairs of numbers: how they are turned, mirrored and moved, and the round order of directions."""
 
 from math import gcd
 
-from stucklots.errors import InvalidDirection
-from stucklots.words import is_direction, is_number_pair
+from stucklots.errors import InvalidDirection, OutOfBounds
+from stucklots.words import is_direction, is_number_pair, is_point
 
 
 def cross(one, other):
@@ -14,6 +14,28 @@ def cross(one, other):
 def turned_half(direction):
     """The direction turned by half."""
     return (-direction[0], -direction[1])
+
+
+def turned_pair(pair, quarters):
+    """A point or a direction turned by quarters to the left about (0, 0)."""
+    # The bounds are the same on all sides, so nothing that is turned or mirrored gets beyond them.
+    x, y = pair
+    for _ in range(quarters % 4):
+        x, y = -y, x
+    return (x, y)
+
+
+def mirrored_pair(pair):
+    """A point or a direction mirrored."""
+    return (-pair[0], pair[1])
+
+
+def moved_point(point, right, up):
+    """The point moved to the right and up; raises OutOfBounds() if it would be no point."""
+    place = (point[0] + right, point[1] + up)
+    if not is_point(place):
+        raise OutOfBounds()
+    return place
 
 
 def reduced(pair):

@@ -1,7 +1,7 @@
 """Parts: convex polygons, told round to the left, and how two of them lie beside one another."""
 
 from stucklots.errors import PartsOverlap
-from stucklots.rounds import cross, mirrored_pair, moved_point, turned_pair
+from stucklots.rounds import cross, mirrored_pair, moved_point, reduced, turned_pair
 from stucklots.words import is_point
 
 LEAST_CORNERS = 3
@@ -123,6 +123,20 @@ def side_of_pairs(pairs, direction):
             if dot(upright, direction) >= 0 and all([dot(upright, pair) <= 0 for pair in pairs]):
                 return upright
     return None
+
+
+def part_span(part, other):
+    """The span (start, stop) of the directions in which other bars part; both do not overlap."""
+    pairs = differences(part, other)
+    # The sum of all differences points into the span, which is at most half of the round: from there the pair that
+    # lies farthest to the right is its start, and the one that lies farthest to the left its stop.
+    start = stop = (sum([x for x, y in pairs]), sum([y for x, y in pairs]))
+    for pair in pairs:
+        if cross(start, pair) < 0:
+            start = pair
+        if cross(stop, pair) > 0:
+            stop = pair
+    return (reduced(start), reduced(stop))
 
 
 def part_bars_way(part, way):

@@ -2,7 +2,8 @@
 
 from stucklots.errors import InvalidName, InvalidPart, Loose, PartsOverlap, TooMany
 from stucklots.parts import area_twice, first_loose, is_part, mirrored_part, moved_part, overlap, part_bars_way
-from stucklots.parts import part_told, turned_part
+from stucklots.parts import part_span, part_told, turned_part
+from stucklots.rounds import joined_span
 from stucklots.words import is_name
 
 
@@ -73,3 +74,9 @@ def check_parts(parts):
     loose = first_loose(parts)
     if loose is not None:
         raise Loose(loose)
+
+
+def piece_span(piece, other):
+    """The span of the directions in which other bars piece; both do not overlap."""
+    # As the parts of a piece hang together, the spans of all parts make one arc.
+    return joined_span(sorted({part_span(part, beside) for part in piece.parts() for beside in other.parts()}))

@@ -1,9 +1,19 @@
-"""Pairs of numbers: how they are turned, mirrored and moved, and the round order of directions."""
+"""Pairs of numbers: how they are turned, mirrored and moved, the round order of directions, and spans of them.
+
+A span tells an arc by its different ends: () the whole arc, (end,) all directions but this one, and (start, stop) those
+that are met to the left of start, ahead of stop.
+"""
 
 from math import gcd
 
 from stucklots.errors import InvalidDirection, OutOfBounds
 from stucklots.words import is_direction, is_number_pair, is_point
+
+
+def check_direction(value):
+    """Raises InvalidDirection(value) for any value that is no direction."""
+    if not is_direction(value):
+        raise InvalidDirection(value)
 
 
 def cross(one, other):
@@ -91,3 +101,46 @@ def next_in_round(directions, direction):
     row = in_round(directions)
     at = place_in_round(row, direction)
     return row[at] if at < len(row) else row[0]
+
+
+def span_between(start, stop):
+    """The span with two ends, which may be equal."""
+    return (start,) if start == stop else (start, stop)
+
+
+def turned_span(span):
+    """The span turned by half."""
+    return tuple([turned_half(end) for end in span])
+
+
+def in_span(span, direction):
+    """Whether a direction, whatever its numbers, is in a span."""
+    if len(span) < 2:
+        return direction not in span
+    start, stop = span
+    left_of_start = cross(start, direction) > 0
+    right_of_stop = cross(direction, stop) > 0
+    # Beyond half of the round, what lies to the left of start and what lies to the right of stop make up the span.
+    if cross(start, stop) < 0:
+        return left_of_start or right_of_stop
+    return left_of_start and right_of_stop
+
+
+def in_any_span(spans, direction):
+    """Whether a direction is in one of some spans."""
+    return any([in_span(span, direction) for span in spans])
+
+
+def spans_meet(span, other):
+    """Whether some direction, whatever its numbers, is in both spans."""
+    if len(span) < 2 or len(other) < 2:
+        return True
+    return span[0] == other[0] or in_span(span, other[0]) or in_span(other, span[0])
+
+
+def joined_span(spans):
+    """The span of all directions of some spans, which together are one arc."""
+    # An end of one span is an end of all together exactly if no span has it.
+    starts = [span[0] for span in spans if span and not in_any_span(spans, span[0])]
+    stops = [span[-1] for span in spans if span and not in_any_span(spans, span[-1])]
+    return span_between(starts[0], stops[0]) if starts else ()

@@ -2,7 +2,8 @@
 
 from stucklots.errors import DuplicateName, InvalidLot, InvalidPeg, InvalidPiece, PiecesOverlap, TooMany, UnknownName
 from stucklots.pegs import Peg
-from stucklots.pieces import Piece
+from stucklots.pieces import Piece, piece_span
+from stucklots.rounds import in_span, turned_span
 from stucklots.thinglines import read_whole, written_lines
 
 
@@ -19,6 +20,9 @@ class Thing:
         check_pegs_fit(pegs, [piece.name for piece in pieces])
         self._pieces = by_name(pieces)
         self._pegs = by_name(pegs)
+        # Lots and states ask for these over and over again, and a thing never changes.
+        self._spans = spans_between(pieces)
+        self._barring = {peg.name: [self._barring_names(way) for way in peg.ways()] for peg in pegs}
 
     def names(self):
         """The ascending list of the names of the pieces."""
@@ -57,6 +61,22 @@ class Thing:
         # Any value may be asked for, also one that can be no key of a dict.
         return isinstance(name, str) and name in self._pieces
 
+    def span(self, one, other):
+        """The span of the directions in which the piece other bars the piece one, by their different names."""
+        return self._spans[one, other]
+
+    def is_barred(self, one, other, direction):
+        """Whether the piece other bars the piece one in a direction, by their names; no piece bars itself."""
+        return one != other and in_span(self._spans[one, other], direction)
+
+    def barring(self, peg):
+        """For each way of a peg, by its name, the ascending list of the names of the pieces that bar it."""
+        return [list(names) for names in self._barring[peg]]
+
+    def _barring_names(self, way):
+        """The ascending list of the names of the pieces that bar a way."""
+        return [name for name in self._pieces if self._pieces[name].bars_way(way)]
+
     def _check_piece_name(self, name):
         """Raises UnknownName(name) for any value that is no name of a piece."""
         if name not in self:
@@ -92,14 +112,22 @@ class Thing:
         changed = self.peg_called(name).with_way(way)
         return Thing(self.pieces(), [changed if peg.name == name else peg for peg in self.pegs()])
 
-    def part_of(self, names):
-        """The thing of some of its pieces, with the pegs that tie two of them."""
+    def some_names(self, names):
+        """The ascending list of some names of pieces; raises InvalidLot(-1), UnknownName(name)."""
         if not isinstance(names, (list, tuple)) or len(names) == 0:
             raise InvalidLot(-1)
         for name in names:
             self._check_piece_name(name)
-        pieces = [piece for piece in self.pieces() if piece.name in names]
-        return Thing(pieces, [peg for peg in self.pegs() if peg.one in names and peg.other in names])
+        return sorted(set(names))
+
+    def pegs_between(self, names):
+        """The ascending list of the names of the pegs that tie two of some pieces."""
+        return [peg.name for peg in self.pegs() if peg.one in names and peg.other in names]
+
+    def part_of(self, names):
+        """The thing of some of its pieces, with the pegs that tie two of them."""
+        pieces = [self._pieces[name] for name in self.some_names(names)]
+        return Thing(pieces, [self._pegs[name] for name in self.pegs_between(names)])
 
     def moved(self, right, up):
         """The thing moved to the right and up; raises OutOfBounds()."""
@@ -137,6 +165,17 @@ def by_name(rows):
     """A dict of the names of pieces or pegs to them, by ascending names."""
     table = {row.name: row for row in rows}
     return {name: table[name] for name in sorted(table)}
+
+
+def spans_between(pieces):
+    """The spans in which pieces bar one another, by the pairs of the name that is barred and the one that bars it."""
+    spans = {}
+    for at, piece in enumerate(pieces):
+        for other in pieces[at + 1:]:
+            span = piece_span(piece, other)
+            spans[piece.name, other.name] = span
+            spans[other.name, piece.name] = turned_span(span)
+    return spans
 
 
 def check_piece_list(pieces):

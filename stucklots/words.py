@@ -17,6 +17,13 @@ def is_name(value):
     return all([letter in LETTERS for letter in value])
 
 
+def is_name_row(value):
+    """Whether any value is an ascending tuple of one name or more."""
+    if not isinstance(value, tuple) or len(value) == 0 or not all([is_name(name) for name in value]):
+        return False
+    return list(value) == sorted(set(value))
+
+
 def is_any_number(value):
     """Whether any value is a number, however great."""
     # To Python True and False are integers, to the document they are no numbers.

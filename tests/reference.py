@@ -1,6 +1,7 @@
 """Slow and plain answers, by other means than those of the package, to hold its answers against."""
 
 from fractions import Fraction
+from math import gcd
 
 
 def edges_of(part):
@@ -86,3 +87,48 @@ def ray_meets(part, way):
         elif speed < 0:
             late = Fraction(-place, speed) if late is None else min(late, Fraction(-place, speed))
     return late is None or early < late
+
+
+def is_side(found, part, other, direction):
+    """The words of [10] about a side."""
+    m, n = found
+    pairs = [(y[0] - x[0], y[1] - x[1]) for y in other for x in part]
+    at_most = all(m * x + n * y <= 0 for x, y in pairs)
+    return (m, n) != (0, 0) and at_most and m * direction[0] + n * direction[1] >= 0
+
+
+def turn(direction):
+    """How far round to the left a direction lies, in a form that can be compared exactly."""
+    u, v = direction
+    half = 0 if v > 0 or (v == 0 and u > 0) else 1
+    return (half, 0, 0) if v == 0 else (half, 1, -Fraction(u, v))
+
+
+def arc_has(start, stop, direction):
+    """Whether one meets a direction on the way round to the left from start to stop; None, None is the whole arc."""
+    if start is None:
+        return True
+    if start == stop:
+        return direction != start
+    here, first, last = turn(direction), turn(start), turn(stop)
+    if first < last:
+        return first < here < last
+    return here > first or here < last
+
+
+def pointing(pair):
+    """The direction in which a pair points."""
+    divisor = gcd(*pair)
+    return (pair[0] // divisor, pair[1] // divisor)
+
+
+def with_between(directions):
+    """Directions in round order, and between each two of them and behind the last one a further one."""
+    row = sorted(set(directions) | {(1, 0), (0, 1), (-1, 0), (0, -1)}, key=turn)
+    return [found for one, other in zip(row, row[1:] + row[:1])
+            for found in (one, pointing((one[0] + other[0], one[1] + other[1])))]
+
+
+def bars_piece(piece, other, direction):
+    """Whether some part of other bars some part of piece, by carrying it along."""
+    return any(bars_part(part, beside, direction) for part in piece.parts() for beside in other.parts())

@@ -1,5 +1,25 @@
 """Values that several tests need."""
 
+from stucklots.pegs import Peg
+from stucklots.pieces import Piece
+from stucklots.things import Thing
+
+
+# The thing of the examples of the document: hooked into one another, but taken apart in two directions.
+HOOKS = (
+    Piece('a', [((0, 0), (2, 0), (2, 8), (0, 8)), ((2, 0), (18, 0), (18, 2), (2, 2)),
+                ((2, 4), (10, 4), (10, 6), (2, 6)), ((4, 6), (6, 6), (6, 8), (4, 8))]),
+    Piece('b', [((2, 6), (4, 6), (4, 8), (2, 8))]),
+    Piece('c', [((0, 8), (18, 8), (18, 10), (0, 10)), ((10, 2), (12, 2), (12, 8), (10, 8)),
+                ((6, 2), (10, 2), (10, 4), (6, 4)), ((14, 2), (16, 2), (16, 8), (14, 8))]),
+    Piece('d', [((12, 2), (14, 2), (14, 8), (12, 8))]),
+)
+GROOVE = Piece('g', [((0, 0), (6, 0), (6, 2), (0, 2)), ((0, 2), (2, 2), (2, 6), (0, 6)), ((4, 2), (6, 2), (6, 6), (4, 6))])
+TONGUE = Piece('t', [((2, 2), (4, 2), (4, 6), (2, 6))])
+FRAME = Piece('f', [((0, 0), (8, 0), (8, 2), (0, 2)), ((0, 6), (8, 6), (8, 8), (0, 8)),
+                    ((0, 2), (2, 2), (2, 6), (0, 6)), ((6, 2), (8, 2), (8, 6), (6, 6))])
+INNER = Piece('i', [((3, 3), (5, 3), (5, 5), (3, 5))])
+
 
 def any_values():
     """Values of many kinds, none of which is a name, a number, a point, a direction, a part or a way."""
@@ -63,3 +83,55 @@ def random_part(chance, bound=6):
         if 3 <= len(hull) <= 6:
             at = chance.randrange(len(hull))
             return hull[at:] + hull[:at]
+
+
+def cells_of(rectangle):
+    left, low, right, high = rectangle
+    return {(x, y) for x in range(left, right) for y in range(low, high)}
+
+
+def random_rectangles(chance, wide, high, taken):
+    """Up to four rectangles of a grid that hang together and lie on cells that are not taken, or none."""
+    rectangles = []
+    beside = set()
+    for _ in range(30):
+        left, low = chance.randrange(wide), chance.randrange(high)
+        rectangle = (left, low, min(wide, left + chance.choice([1, 1, 2, 4])), min(high, low + chance.choice([1, 1, 2, 4])))
+        cells = cells_of(rectangle)
+        if cells & taken or (rectangles and not cells & beside):
+            continue
+        rectangles.append(rectangle)
+        taken |= cells
+        beside |= {(x + u, y + v) for x, y in cells for u, v in ((1, 0), (-1, 0), (0, 1), (0, -1))}
+        if len(rectangles) == chance.choice([1, 2, 3, 4, 4]) or len(rectangles) == 4:
+            break
+    return rectangles
+
+
+def random_pieces(chance, most, wide=5, high=5):
+    """A list of pieces by chance, named from a on: unions of rectangles, often hooked into one another, and slanted."""
+    taken, pieces = set(), []
+    a, b, c, d = chance.choice([(2, 0, 0, 2), (2, 0, 0, 2), (2, 1, 0, 2), (2, 1, -1, 2), (3, 1, 1, 2), (1, 0, 3, 1)])
+    for _ in range(most):
+        rectangles = random_rectangles(chance, wide, high, taken)
+        if rectangles:
+            boxes = [box(left, low, right - left, top - low) for left, low, right, top in rectangles]
+            parts = [tuple((a * x + b * y, c * x + d * y) for x, y in part) for part in boxes]
+            pieces.append(Piece('abcdefghi'[len(pieces)], parts))
+    return pieces
+
+
+def random_peg(chance, name, names):
+    """A peg by chance that ties two of some names."""
+    directions = [(1, 0), (0, 1), (-1, 0), (0, -1), (1, 1), (-2, 1), (1, -3)]
+    ways = [((chance.randint(-2, 16), chance.randint(-2, 16)), chance.choice(directions))
+            for _ in range(chance.choice([0, 1, 1, 2, 3]))]
+    return Peg(name, *chance.sample(names, 2), ways)
+
+
+def random_thing(chance, most=5, pegs=2, wide=5, high=5):
+    """A thing by chance with up to so many pieces and pegs."""
+    pieces = random_pieces(chance, chance.randint(1, most), wide, high)
+    names = [piece.name for piece in pieces]
+    many = chance.randint(0, pegs) if len(names) > 1 else 0
+    return Thing(pieces, [random_peg(chance, 'stuvwxyz'[at], names) for at in range(many)])

@@ -1,7 +1,7 @@
 import random
 import unittest
 
-from reference import are_joined, bars_part, do_overlap
+from reference import are_joined, bars_part, do_overlap, is_side
 from samples import any_values, box, caught, random_part, told_from_each_corner
 from stucklots.parts import area_twice, differences, is_part, joined, overlap, part_told, side
 
@@ -11,14 +11,6 @@ FIVE = ((0, 0), (4, 0), (5, 3), (2, 5), (-1, 3))
 SIX = ((0, 0), (2, 0), (3, 2), (2, 4), (0, 4), (-1, 2))
 SEVEN = ((0, 0), (2, 0), (4, 1), (5, 3), (4, 5), (2, 6), (-1, 3))
 SIX_DIRECTIONS = [(1, 0), (0, 1), (-1, 0), (0, -1), (2, 3), (-3, 1)]
-
-
-def is_side(found, part, other, direction):
-    """The words of [10] about a side."""
-    m, n = found
-    pairs = [(y[0] - x[0], y[1] - x[1]) for y in other for x in part]
-    at_most = all(m * x + n * y <= 0 for x, y in pairs)
-    return (m, n) != (0, 0) and at_most and m * direction[0] + n * direction[1] >= 0
 
 
 class IsPartTests(unittest.TestCase):

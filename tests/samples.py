@@ -1,5 +1,6 @@
 """Values that several tests need."""
 
+from stucklots.lots import Lot
 from stucklots.pegs import Peg
 from stucklots.pieces import Piece
 from stucklots.things import Thing
@@ -135,3 +136,10 @@ def random_thing(chance, most=5, pegs=2, wide=5, high=5):
     names = [piece.name for piece in pieces]
     many = chance.randint(0, pegs) if len(names) > 1 else 0
     return Thing(pieces, [random_peg(chance, 'stuvwxyz'[at], names) for at in range(many)])
+
+
+def random_lot(chance, thing):
+    """A lot by chance of a thing: some of its pieces, and some of the pegs between them."""
+    names = chance.sample(thing.names(), chance.randint(1, len(thing)))
+    pegs = [peg.name for peg in thing.pegs() if peg.one in names and peg.other in names]
+    return Lot(thing, names, fast=[peg for peg in pegs if chance.random() < 0.7])

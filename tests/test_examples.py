@@ -4,9 +4,11 @@ import unittest
 
 from samples import FRAME, GROOVE, HOOKS, INNER, TONGUE, caught
 from stucklots.bars import arc_of
+from stucklots.clumps import clumps
 from stucklots.compass import compass
 from stucklots.pegs import Peg
 from stucklots.pieces import Piece
+from stucklots.states import State
 from stucklots.things import Thing
 
 
@@ -26,11 +28,17 @@ class ExampleTests(unittest.TestCase):
     def test_the_frame(self):
         thing = Thing([FRAME, INNER])
         self.assertEqual(thing.names(), ['f', 'i'])
-        self.assertEqual(compass(thing), [(1, 0)])
+        self.assertEqual([compass(thing), clumps(thing)], [[(1, 0)], [(('f', 'i'), ())]])
+
+    def test_four_pieces(self):
+        self.assertEqual(clumps(Thing(HOOKS)), [(('a',), ()), (('b',), ()), (('c',), ()), (('d',), ())])
 
     def test_four_pieces_and_a_pin(self):
         thing = Thing(HOOKS, [Peg('pin', 'b', 'a', [((3, 8), (0, 1))])])
         self.assertEqual(repr(thing), 'Thing(4 pieces, 1 pegs)')
+        state = State(thing).after(('part', (-1, 0), ('a', 'b')))
+        self.assertEqual([len(state), state.fast(), state.after(('draw', 'pin')).fast()], [2, ['pin'], []])
+        self.assertEqual(caught(State(thing).after, ('draw', 'pin')), ('Held', {'peg': 'pin'}))
         # The pin is held: of all pieces c alone lies above it.
         way = thing.peg_called('pin').ways()[0]
         self.assertEqual([piece.bars_way(way) for piece in thing.pieces()], [False, False, True, False])

@@ -20,6 +20,7 @@ TONGUE = Piece('t', [((2, 2), (4, 2), (4, 6), (2, 6))])
 FRAME = Piece('f', [((0, 0), (8, 0), (8, 2), (0, 2)), ((0, 6), (8, 6), (8, 8), (0, 8)),
                     ((0, 2), (2, 2), (2, 6), (0, 6)), ((6, 2), (8, 2), (8, 6), (6, 6))])
 INNER = Piece('i', [((3, 3), (5, 3), (5, 5), (3, 5))])
+RIGHT, UP, LEFT, DOWN = (1, 0), (0, 1), (-1, 0), (0, -1)
 
 
 def any_values():
@@ -54,6 +55,15 @@ def caught(call, *args, **named):
 def box(x, y, wide=2, high=2):
     """The part of a box with its lower left corner and its sizes."""
     return ((x, y), (x + wide, y), (x + wide, y + high), (x, y + high))
+
+
+# A row of four boxes from left to right, with a pin between a and b that can be drawn upwards, a peg between b and c
+# that is held by d, and glue between a and d.
+ROW = [Piece('abcd'[at], [box(3 * at, 0)]) for at in range(4)]
+PIN = Peg('pin', 'a', 'b', [((3, 1), RIGHT), ((2, 2), UP)])
+HELD = Peg('held', 'c', 'b', [((8, 1), RIGHT)])
+GLUE = Peg('glue', 'd', 'a')
+PEGGED_ROW = Thing(ROW, [PIN, HELD, GLUE])
 
 
 def told_from_each_corner(part):

@@ -4,7 +4,8 @@ import unittest
 
 from reference import with_between
 from reference_lots import all_groups, all_rows, all_sets, free_pegs, leaning_pairs, least_set, lot_is_stuck, sets_that_leave
-from samples import FRAME, GROOVE, HOOKS, INNER, TONGUE, any_values, box, caught, random_lot, random_thing
+from samples import DOWN, FRAME, GLUE, GROOVE, HELD, HOOKS, INNER, LEFT, PEGGED_ROW, PIN, RIGHT, ROW, TONGUE, UP
+from samples import any_values, box, caught, random_lot, random_thing
 from stucklots.arcs import Arc
 from stucklots.compass import compass
 from stucklots.lots import Lot
@@ -12,14 +13,7 @@ from stucklots.pegs import Peg
 from stucklots.pieces import Piece
 from stucklots.things import Thing
 
-RIGHT, UP, LEFT, DOWN = (1, 0), (0, 1), (-1, 0), (0, -1)
-# A row of four boxes from left to right, with a pin between a and b that can be drawn upwards, a peg between b and c
-# that is held by d, and glue between a and d.
-ROW = [Piece('abcd'[at], [box(3 * at, 0)]) for at in range(4)]
-PIN = Peg('pin', 'a', 'b', [((3, 1), RIGHT), ((2, 2), UP)])
-HELD = Peg('held', 'c', 'b', [((8, 1), RIGHT)])
-GLUE = Peg('glue', 'd', 'a')
-THING = Thing(ROW, [PIN, HELD, GLUE])
+THING = PEGGED_ROW
 PLAIN = Thing(ROW)
 WRONG_DIRECTIONS = any_values() + [0, 'up', (0, 0), (2, 0), (1000, 1), [1, 0], (True, 0), (1, 0, 0), Arc.whole(), THING]
 WRONG_NAMES = any_values() + [0, 'e', 'x', ['a'], ('a',), {'a': 1}, THING, PIN, ROW[0], Lot(THING), [[[[[[[['a']]]]]]]]]

@@ -4,23 +4,16 @@ import unittest
 
 from reference import with_between
 from reference_lots import all_offers, all_sets, lot_is_stuck, sets_that_leave
-from samples import FRAME, HOOKS, INNER, any_values, box, caught, random_thing
+from samples import DOWN, FRAME, GLUE, HELD, HOOKS, INNER, LEFT, PEGGED_ROW, PIN, RIGHT, ROW, UP
+from samples import any_values, caught, random_thing
 from stucklots.arcs import Arc
 from stucklots.lots import Lot
 from stucklots.pegs import Peg
-from stucklots.pieces import Piece
 from stucklots.states import State
 from stucklots.things import Thing
 
-RIGHT, UP, LEFT, DOWN = (1, 0), (0, 1), (-1, 0), (0, -1)
-# The row of boxes of test_lots: the pin can be drawn, held is held by d, and glue is never drawn.
-ROW = [Piece('abcd'[at], [box(3 * at, 0)]) for at in range(4)]
-PIN = Peg('pin', 'a', 'b', [((3, 1), RIGHT), ((2, 2), UP)])
-HELD = Peg('held', 'c', 'b', [((8, 1), RIGHT)])
-GLUE = Peg('glue', 'd', 'a')
-THING = Thing(ROW, [PIN, HELD, GLUE])
+THING = PEGGED_ROW
 PINNED = Thing(ROW, [PIN, HELD])
-HOOKED = Thing(HOOKS, [Peg('pin', 'b', 'a', [((3, 8), UP)])])
 WRONG_DIRECTIONS = [None, True, 0, '', 'up', (0, 0), (2, 0), (1000, 1), [1, 0], (True, 0), (1, 0, 0), (1,), {}, Arc.whole()]
 WRONG_NAMES = [None, True, 0, '', 'A', 'toolong', 'a b', 'a\n', ('a',), ['a'], {'a': 1}, THING, PIN]
 WRONG_ROWS = [None, True, 0, '', 'a', 'ab', ['a'], ['a', 'b'], (), ('b', 'a'), ('a', 'a'), ('a', 'b', 'b'), {'a': 1}, {},
@@ -93,6 +86,12 @@ class MadeTests(unittest.TestCase):
         self.assertEqual([len(state), repr(state)], [3, 'State(3 lots)'])
         self.assertEqual([state.lot_of(name).names() for name in 'abcd'], [['a'], ['b', 'd'], ['c'], ['b', 'd']])
         self.assertEqual(state.lot_of(name='d'), Lot(thing, ['b', 'd']))
+
+    def test_fast_pegs_of_all_lots_are_ascending(self):
+        pegs = [Peg('q', 'a', 'b'), Peg('s', 'a', 'b'), Peg('p', 'c', 'd'), Peg('r', 'c', 'd')]
+        state = State(Thing(ROW, pegs)).after(('part', UP, ('a', 'b')))
+        self.assertEqual([lot.pegs() for lot in state.lots()], [['q', 's'], ['p', 'r']])
+        self.assertEqual(state.fast(), ['p', 'q', 'r', 's'])
 
     def test_lot_of_an_unknown_name(self):
         for value in any_values() + ['x', 'pin', 0, ['a'], ('a',), THING, State(THING)]:
@@ -409,7 +408,8 @@ class FinerTests(unittest.TestCase):
 
     def test_other_things(self):
         state = State(THING)
-        for value in any_values() + [0, THING, Lot(THING), State(PINNED), State(THING.moved(1, 0)), [state]]:
+        for value in any_values() + [0, THING, Lot(THING), State(PINNED), State(THING.moved(1, 0)), [state],
+                                     State(THING.without_piece('a')), State(Thing([FRAME, INNER]))]:
             self.assertEqual(caught(state.is_finer, value), ('OtherThing', {}))
         self.assertIs(state.is_finer(State(Thing(ROW[::-1], [PIN, GLUE, HELD]))), True)
 

@@ -2,18 +2,15 @@ import random
 import unittest
 
 from reference_lots import leaning_pairs, lot_is_stuck
-from samples import FRAME, HOOKS, INNER, any_values, box, caught, random_lot, random_thing
+from samples import FRAME, HOOKS, INNER, LEFT, RIGHT, ROW, UP, any_values, caught, random_lot, random_thing
 from stucklots.arcs import Arc
 from stucklots.clumps import clumps
 from stucklots.lots import Lot
 from stucklots.pegs import Peg
-from stucklots.pieces import Piece
 from stucklots.states import State
 from stucklots.stuck import is_stuck_paper, is_walk, stuck_paper
 from stucklots.things import Thing
 
-RIGHT, UP, LEFT, DOWN = (1, 0), (0, 1), (-1, 0), (0, -1)
-ROW = [Piece('abcd'[at], [box(3 * at, 0)]) for at in range(4)]
 # Held from both sides, with two ways, and glue.
 PEGS = [Peg('held', 'b', 'c', [((5, 1), RIGHT), ((6, 1), LEFT)]), Peg('glue', 'a', 'b'), Peg('more', 'c', 'a')]
 GLUED = Lot(Thing(ROW, PEGS), ['a', 'b', 'c'])

@@ -6,6 +6,7 @@ from stucklots.compass import chosen_names, compass
 from stucklots.errors import Barred, Held, InvalidLot, InvalidNumber, InvalidRow, NoParting, NotFast, OtherThing, Pegged
 from stucklots.errors import UnknownName
 from stucklots.rounds import check_direction
+from stucklots.rows import first_wrong, has_bit, index_of_row, indexes_in, row_count_of, row_with_index
 from stucklots.words import is_number
 
 
@@ -81,14 +82,14 @@ class Lot:
     def row_count(self, direction):
         """How many rows of groups there are."""
         check_direction(direction)
-        return row_counts(free_groups(self.leaning(direction)))[0]
+        return row_count_of(free_groups(self.leaning(direction)))
 
     def row_at(self, direction, index):
         """The row of groups with an index."""
         check_direction(direction)
         leaning = self.leaning(direction)
         free = free_groups(leaning)
-        if not is_number(index, 0, row_counts(free)[0] - 1):
+        if not is_number(index, 0, row_count_of(free) - 1):
             raise InvalidNumber(index)
         groups = groups_of(leaning)
         return [groups[at] for at in row_with_index(free, index)]
@@ -101,12 +102,11 @@ class Lot:
         if not isinstance(row, (list, tuple)) or len(row) != len(groups):
             raise InvalidRow(-1)
         free = free_groups(leaning)
-        placed = 0
-        for at, group in enumerate(row):
-            if group not in [groups[place] for place in free[placed]]:
-                raise InvalidRow(at)
-            placed = placed | (1 << groups.index(group))
-        return index_of_row(free, [groups.index(group) for group in row])
+        order = indexes_in(groups, row)
+        wrong = first_wrong(free, order)
+        if wrong is not None:
+            raise InvalidRow(wrong)
+        return index_of_row(free, order)
 
     def draws(self):
         """The list of the steps that draw a peg, by ascending names."""
@@ -130,9 +130,9 @@ class Lot:
         for peg in self._pegs:
             if peg not in kept:
                 raise Pegged(peg)
-        return (self._part_of(going), self._part_of(staying))
+        return (self.part_of(going), self.part_of(staying))
 
-    def _part_of(self, names):
+    def part_of(self, names):
         """The lot of some of its pieces, with the fast pegs that tie two of them."""
         between = self.thing.pegs_between(names)
         return Lot(self.thing, names, fast=[peg for peg in self._pegs if peg in between])
@@ -275,43 +275,3 @@ def free_indexes(needs, placed):
     """The ascending indexes that are not placed yet, while all that they need are."""
     return [at for at, need in enumerate(needs)
             if not has_bit(placed, at) and all([has_bit(placed, other) for other in need])]
-
-
-def has_bit(bits, at):
-    """Whether a set of indexes, told by its bits, has an index."""
-    return (bits >> at) & 1 == 1
-
-
-def row_counts(free):
-    """By each set of indexes: in how many ways the others can follow it, all of them, by what is free each time."""
-    counts = [1] * len(free)
-    for placed in range(len(free) - 2, -1, -1):
-        counts[placed] = sum([counts[placed | (1 << at)] for at in free[placed]])
-    return counts
-
-
-def row_with_index(free, index):
-    """The row of indexes that has an index among all such rows, ascending."""
-    counts = row_counts(free)
-    row = []
-    placed = 0
-    left = index
-    while free[placed]:
-        at = 0
-        while left >= counts[placed | (1 << free[placed][at])]:
-            left -= counts[placed | (1 << free[placed][at])]
-            at += 1
-        row.append(free[placed][at])
-        placed = placed | (1 << free[placed][at])
-    return row
-
-
-def index_of_row(free, row):
-    """The index of a row of indexes among all such rows, ascending."""
-    counts = row_counts(free)
-    placed = 0
-    index = 0
-    for chosen in row:
-        index += sum([counts[placed | (1 << at)] for at in free[placed] if at < chosen])
-        placed = placed | (1 << chosen)
-    return index

@@ -49,13 +49,13 @@ class State:
         lots = [self.lot_of(name) for name in names]
         if not all([name in lots[0] for name in names]):
             raise NoParting()
-        return self._with_lots(list(lots[0].parted(direction, names)))
+        return self.with_lots(list(lots[0].parted(direction, names)))
 
     def _drawn(self, peg):
         """The state behind the drawing of a peg."""
         # If the peg is fast, both its pieces are in one lot.
         lot = self.lot_of(self.thing.peg_called(peg).one)
-        return self._with_lots([lot.drawn(peg)])
+        return self.with_lots([lot.drawn(peg)])
 
     def built(self, step):
         """The state behind a building step."""
@@ -73,7 +73,7 @@ class State:
         if coming.names() != list(names) or staying.names() != list(others) or names == others:
             raise NoJoining()
         check_not_barred(self.thing, names, others, turned_half(direction))
-        return self._with_lots([coming | staying])
+        return self.with_lots([coming | staying])
 
     def _pegged(self, name):
         """The state in which a peg is fast."""
@@ -83,9 +83,9 @@ class State:
             raise NoJoining()
         if not lot.has_free_way(name):
             raise Held(name)
-        return self._with_lots([Lot(self.thing, lot.names(), fast=lot.pegs() + [name])])
+        return self.with_lots([Lot(self.thing, lot.names(), fast=lot.pegs() + [name])])
 
-    def _with_lots(self, fresh):
+    def with_lots(self, fresh):
         """The state with fresh lots in place of those that have their pieces."""
         changed = [name for lot in fresh for name in lot.names()]
         kept = [lot for lot in self._lots if lot.names()[0] not in changed]

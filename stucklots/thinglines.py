@@ -4,7 +4,7 @@ from stucklots.errors import InvalidText
 from stucklots.parts import first_loose, is_part, overlap, part_told
 from stucklots.pegs import Peg
 from stucklots.pieces import Piece
-from stucklots.words import is_name, is_way, number_in
+from stucklots.words import is_name, is_way, lines_told, number_in, numbers_told
 
 # By the first word of a line: the first words that the next line may have. Nothing stands behind end.
 NEXT_WORDS = {
@@ -27,12 +27,7 @@ def written_lines(pieces, pegs):
         lines.append(f"peg {peg.name} {peg.one} {peg.other}")
         lines.extend([f"way {numbers_told(way)}" for way in peg.ways()])
     lines.append("end")
-    return "".join([f"{line}\n" for line in lines])
-
-
-def numbers_told(pairs):
-    """The numbers of some pairs as words."""
-    return " ".join([str(number) for pair in pairs for number in pair])
+    return lines_told(lines)
 
 
 def line_read(line):

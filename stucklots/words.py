@@ -1,4 +1,4 @@
-"""What any value is: a name, a number, a point, a direction, a way."""
+"""What any value is: a name, a number, a point, a direction, a way; and how numbers and lines stand in texts."""
 
 from math import gcd
 
@@ -71,3 +71,13 @@ def number_in(text):
     if digits[0] == "0" and text != "0":
         return None
     return int(text)
+
+
+def numbers_told(pairs):
+    """The numbers of some pairs as words with one space between."""
+    return " ".join([str(number) for pair in pairs for number in pair])
+
+
+def lines_told(lines):
+    """The text of some lines, each with its line feed."""
+    return "".join([f"{line}\n" for line in lines])

@@ -1,4 +1,4 @@
-"""The examples of the document, as far as they need no later module."""
+"""The examples of the document, all but the price of a piece."""
 
 import unittest
 
@@ -6,10 +6,13 @@ from samples import FRAME, GROOVE, HOOKS, INNER, TONGUE, caught
 from stucklots.bars import arc_of
 from stucklots.clumps import clumps
 from stucklots.compass import compass
+from stucklots.instructions import plain_steps, run, shortened, turnings
 from stucklots.pegs import Peg
 from stucklots.pieces import Piece
+from stucklots.singles import kernel
 from stucklots.states import State
 from stucklots.things import Thing
+from stucklots.turnings import turning_row
 
 
 class ExampleTests(unittest.TestCase):
@@ -31,7 +34,14 @@ class ExampleTests(unittest.TestCase):
         self.assertEqual([compass(thing), clumps(thing)], [[(1, 0)], [(('f', 'i'), ())]])
 
     def test_four_pieces(self):
-        self.assertEqual(clumps(Thing(HOOKS)), [(('a',), ()), (('b',), ()), (('c',), ()), (('d',), ())])
+        thing = Thing(HOOKS)
+        self.assertEqual([clumps(thing), kernel(thing), turning_row(thing)],
+                         [[(('a',), ()), (('b',), ()), (('c',), ()), (('d',), ())], (['a', 'b', 'c', 'd'], []), [(1, 0), (0, 1)]])
+
+    def test_instructions(self):
+        text = 'turn 0 1\nturn -1 0\nlet two a b\npart +two\nturn 0 1\npart b\npart c\n'
+        self.assertEqual([len(run(Thing(HOOKS), text)), shortened(text), turnings(plain_steps(text))],
+                         [4, 'turn -1 0\npart a b\nturn 0 1\npart b\npart c\n', 2])
 
     def test_four_pieces_and_a_pin(self):
         thing = Thing(HOOKS, [Peg('pin', 'b', 'a', [((3, 8), (0, 1))])])

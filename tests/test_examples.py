@@ -1,4 +1,4 @@
-"""The examples of the document, all but the price of a piece."""
+"""The examples of the document."""
 
 import unittest
 
@@ -10,6 +10,7 @@ from stucklots.instructions import plain_steps, run, shortened, turnings
 from stucklots.pegs import Peg
 from stucklots.pieces import Piece
 from stucklots.singles import kernel
+from stucklots.spares import price_of
 from stucklots.states import State
 from stucklots.things import Thing
 from stucklots.turnings import turning_row
@@ -35,8 +36,10 @@ class ExampleTests(unittest.TestCase):
 
     def test_four_pieces(self):
         thing = Thing(HOOKS)
-        self.assertEqual([clumps(thing), kernel(thing), turning_row(thing)],
-                         [[(('a',), ()), (('b',), ()), (('c',), ()), (('d',), ())], (['a', 'b', 'c', 'd'], []), [(1, 0), (0, 1)]])
+        prices = {'a': 1, 'b': 1, 'c': 9, 'd': 4}
+        self.assertEqual([clumps(thing), kernel(thing), turning_row(thing), price_of(thing, 'd', prices),
+                          price_of(thing, 'd', prices, only=(1, 0))],
+                         [[(('a',), ()), (('b',), ()), (('c',), ()), (('d',), ())], (['a', 'b', 'c', 'd'], []), [(1, 0), (0, 1)], 6, 13])
 
     def test_instructions(self):
         text = 'turn 0 1\nturn -1 0\nlet two a b\npart +two\nturn 0 1\npart b\npart c\n'

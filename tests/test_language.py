@@ -25,6 +25,7 @@ BARRED_WORDS = re.compile(r'\b(type|typing|enum|Enum|Generic|Protocol|ABC|namedt
 METHODS = set('''append clear copy count endswith extend find get index insert isalnum isalpha isdigit islower isspace
     isupper items join keys ljust lower lstrip partition pop remove replace reverse rfind rjust rpartition rsplit rstrip
     setdefault split splitlines startswith strip update upper values zfill bit_length removeprefix removesuffix'''.split())
+VIEWS = ('zip', 'enumerate', 'reversed', 'range', 'items', 'keys', 'values')
 LEFT_OUT = (ast.AsyncFunctionDef, ast.AsyncFor, ast.AsyncWith, ast.Await, ast.Global, ast.Div, ast.MatMult, ast.AnnAssign)
 
 
@@ -65,6 +66,11 @@ def nodes(kind):
         for node in ast.walk(without_docstrings(ast.parse(source))):
             if isinstance(node, kind):
                 yield f'{name}:{getattr(node, "lineno", "?")}', node
+
+
+def parents(tree):
+    """By each node of a file the node around it."""
+    return {child: node for node in ast.walk(tree) for child in ast.iter_child_nodes(node)}
 
 
 def own_methods():
@@ -196,6 +202,85 @@ class LanguageTests(unittest.TestCase):
 
     def test_lists_stand_in_place_of_generator_expressions(self):
         self.assertEqual([where for where, node in nodes(ast.GeneratorExp)], [])
+
+    def test_generators_have_names_of_their_own_and_are_iterated_at_once(self):
+        functions = [node for _, node in nodes(ast.FunctionDef)]
+        names = [node.name for node in functions]
+        for node in functions:
+            if any(isinstance(part, (ast.Yield, ast.YieldFrom)) for part in ast.walk(node)):
+                self.assertEqual(names.count(node.name), 1, node.name)
+                self.assertNotIn(node.name, METHODS)
+                self.assertEqual([part for part in ast.walk(node) if isinstance(part, ast.Return) and part.value], [])
+                for where, call in nodes(ast.Call):
+                    self.assertNotIn(ast.unparse(call.func).split('.')[-1], [node.name], where)
+
+    def test_sets_stand_where_they_may(self):
+        for file, source in sources().items():
+            tree = ast.parse(source)
+            around = parents(tree)
+            for node in ast.walk(tree):
+                made = isinstance(node, ast.Call) and ast.unparse(node.func) in ('set', 'frozenset')
+                if made or isinstance(node, (ast.Set, ast.SetComp)):
+                    outer = around[node]
+                    within = isinstance(outer, ast.Call) and ast.unparse(outer.func) in ('sorted', 'len') and not outer.keywords
+                    tested = isinstance(outer, ast.Compare) and node in outer.comparators and isinstance(outer.ops[0], ast.In)
+                    self.assertTrue(within or tested, f'{file}:{node.lineno}')
+
+    def test_views_are_iterated_on_the_spot(self):
+        takers = ('list', 'tuple', 'dict', 'sorted', 'sum', 'any', 'all', 'enumerate', 'zip', 'min', 'max', 'len')
+        for file, source in sources().items():
+            tree = ast.parse(source)
+            around = parents(tree)
+            for node in ast.walk(tree):
+                if isinstance(node, ast.Call) and ast.unparse(node.func).split('.')[-1] in VIEWS:
+                    outer = around[node]
+                    looped = isinstance(outer, (ast.For, ast.comprehension)) and outer.iter is node
+                    taken = isinstance(outer, ast.Call) and ast.unparse(outer.func) in takers and outer.args[0] is node
+                    self.assertTrue(looped or taken, f'{file}:{node.lineno}')
+
+    def test_errors_that_are_raised_and_caught_are_own_ones(self):
+        own = {node.name for node in ast.parse(sources()['errors.py']).body if isinstance(node, ast.ClassDef)}
+        for where, node in nodes(ast.Raise):
+            self.assertIsInstance(node.exc, ast.Call, where)
+            self.assertIn(ast.unparse(node.exc.func), own, where)
+        for where, node in nodes(ast.ExceptHandler):
+            names = [ast.unparse(name) for name in (node.type.elts if isinstance(node.type, ast.Tuple) else [node.type])]
+            self.assertLessEqual(set(names), own, where)
+
+    def test_finally_assigns_plain_values(self):
+        for where, node in nodes(ast.Try):
+            for part in node.finalbody:
+                self.assertIsInstance(part, ast.Assign, where)
+                self.assertIsInstance(part.value, (ast.Name, ast.Attribute, ast.Constant), where)
+
+    def test_behind_a_star_of_a_call_stands_a_name(self):
+        for where, node in nodes(ast.Call):
+            for part in node.args:
+                if isinstance(part, ast.Starred):
+                    self.assertIsInstance(part.value, (ast.Name, ast.Attribute), where)
+            self.assertNotIn(None, [part.arg for part in node.keywords], where)
+
+    def test_default_values_and_class_values_are_plain(self):
+        for where, node in nodes(ast.FunctionDef):
+            for value in node.args.defaults + [part for part in node.args.kw_defaults if part]:
+                ast.literal_eval(value)
+            self.assertNotIsInstance(node.args.kwarg, ast.arg, where)
+        for where, node in nodes(ast.ClassDef):
+            for part in node.body:
+                if isinstance(part, ast.Assign):
+                    self.assertIsInstance(part.value, ast.Constant, where)
+
+    def test_strings_within_braces(self):
+        for where, node in nodes(ast.JoinedStr):
+            for part in ast.walk(node):
+                if isinstance(part, ast.FormattedValue):
+                    self.assertFalse([inner for inner in ast.walk(part.value) if isinstance(inner, ast.Constant) and isinstance(inner.value, str)], where)
+
+    def test_no_library_name_is_passed_on(self):
+        for where, node in nodes(ast.Call):
+            if ast.unparse(node.func) == 'combinations':
+                self.assertIsInstance(node.args[0], ast.Name, where)
+                self.assertIsInstance(node.args[1], ast.Name, where)
 
     def test_is_stands_beside_none_true_and_false(self):
         for where, node in nodes(ast.Compare):

@@ -4,9 +4,10 @@ from stucklots.compass import compass
 from stucklots.errors import InvalidPrices, InvalidStep
 from stucklots.lots import Lot
 from stucklots.rounds import check_direction
+from stucklots.states import is_peg_step, is_set_step
 from stucklots.tables import all_bits, fast_among, indexes_of, leaning_bits, lies_within, names_of, peg_rows
 from stucklots.tables import reached_bits, sets_told, web_bits, without
-from stucklots.words import is_direction, is_name, is_name_row, is_number
+from stucklots.words import is_number
 
 MOST_PRICE = 99
 
@@ -135,11 +136,7 @@ def steps_off(thing, ways, rest):
 
 def is_spare_step(value):
     """Whether any value is a tuple of the form of a step for a spare part."""
-    if not isinstance(value, tuple) or len(value) < 2:
-        return False
-    if value[0] == "carry":
-        return len(value) == 3 and is_direction(value[1]) and is_name_row(value[2])
-    return value[0] == "draw" and len(value) == 2 and is_name(value[1])
+    return is_set_step(value, "carry") or is_peg_step(value, "draw")
 
 
 def can_be_done(lot, step):

@@ -119,19 +119,25 @@ def least_name(lot):
     return lot.names()[0]
 
 
+def is_set_step(value, word):
+    """Whether any value is a tuple of a word, a direction and names."""
+    if not isinstance(value, tuple) or len(value) != 3:
+        return False
+    return value[0] == word and is_direction(value[1]) and is_name_row(value[2])
+
+
+def is_peg_step(value, word):
+    """Whether any value is a tuple of a word and a name."""
+    return isinstance(value, tuple) and len(value) == 2 and value[0] == word and is_name(value[1])
+
+
 def is_step(value):
     """Whether any value is a tuple of the form of a step."""
-    if not isinstance(value, tuple) or len(value) < 2:
-        return False
-    if value[0] == "part":
-        return len(value) == 3 and is_direction(value[1]) and is_name_row(value[2])
-    return value[0] == "draw" and len(value) == 2 and is_name(value[1])
+    return is_set_step(value, "part") or is_peg_step(value, "draw")
 
 
 def is_building_step(value):
     """Whether any value is a tuple of the form of a building step."""
-    if not isinstance(value, tuple) or len(value) < 2:
-        return False
-    if value[0] == "join":
-        return len(value) == 4 and is_direction(value[1]) and is_name_row(value[2]) and is_name_row(value[3])
-    return value[0] == "peg" and len(value) == 2 and is_name(value[1])
+    if isinstance(value, tuple) and len(value) == 4:
+        return is_set_step(value[:3], "join") and is_name_row(value[3])
+    return is_peg_step(value, "peg")
